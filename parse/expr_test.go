@@ -27,18 +27,18 @@ func TestOperands(t *testing.T) {
 func TestEachSignBesideEachOther(t *testing.T) {
 	a, b, c := reg("a"), num(2), reg("c")
 	for _, s := range betweens() {
-		wantExpr(t, "a"+s.sign+"2", op(s.op, a, b))
+		wantExpr(t, "a"+s.Sign+"2", op(s.Op, a, b))
 		for _, r := range betweens() {
-			want := op(r.op, op(s.op, a, b), c)
-			if r.strength > s.strength {
-				want = op(s.op, a, op(r.op, b, c))
+			want := op(r.Op, op(s.Op, a, b), c)
+			if r.Strength > s.Strength {
+				want = op(s.Op, a, op(r.Op, b, c))
 			}
-			wantExpr(t, "a "+s.sign+" 2 "+r.sign+" c", want)
-			wantExpr(t, "a"+s.sign+"2"+r.sign+"c", want)
-			wantExpr(t, "(a "+s.sign+" 2) "+r.sign+" c", op(r.op, op(s.op, a, b), c))
-			wantExpr(t, "a "+s.sign+" (2 "+r.sign+" c)", op(s.op, a, op(r.op, b, c)))
-			wantExpr(t, "(a) "+s.sign+" (2) "+r.sign+" (c)", want)
-			wantExpr(t, "("+"a "+s.sign+" 2 "+r.sign+" c)", want)
+			wantExpr(t, "a "+s.Sign+" 2 "+r.Sign+" c", want)
+			wantExpr(t, "a"+s.Sign+"2"+r.Sign+"c", want)
+			wantExpr(t, "(a "+s.Sign+" 2) "+r.Sign+" c", op(r.Op, op(s.Op, a, b), c))
+			wantExpr(t, "a "+s.Sign+" (2 "+r.Sign+" c)", op(s.Op, a, op(r.Op, b, c)))
+			wantExpr(t, "(a) "+s.Sign+" (2) "+r.Sign+" (c)", want)
+			wantExpr(t, "("+"a "+s.Sign+" 2 "+r.Sign+" c)", want)
 		}
 	}
 }
@@ -46,11 +46,11 @@ func TestEachSignBesideEachOther(t *testing.T) {
 func TestAllToTheLeft(t *testing.T) {
 	for _, s := range betweens() {
 		for _, r := range betweens() {
-			if r.strength != s.strength {
+			if r.Strength != s.Strength {
 				continue
 			}
-			want := op(s.op, op(r.op, op(s.op, reg("a"), reg("b")), reg("c")), reg("d"))
-			wantExpr(t, strings.Join([]string{"a", s.sign, "b", r.sign, "c", s.sign, "d"}, " "), want)
+			want := op(s.Op, op(r.Op, op(s.Op, reg("a"), reg("b")), reg("c")), reg("d"))
+			wantExpr(t, strings.Join([]string{"a", s.Sign, "b", r.Sign, "c", s.Sign, "d"}, " "), want)
 		}
 	}
 	wantExpr(t, "8 - 4 - 2 - 1", op(15, op(15, op(15, num(8), num(4)), num(2)), num(1)))
@@ -66,8 +66,8 @@ func TestAllStrengths(t *testing.T) {
 	for _, sign := range []string{"*", "+", "&", "^", "|", "<", "==", "&&", "||"} {
 		var o int
 		for _, b := range betweens() {
-			if b.sign == sign {
-				o = b.op
+			if b.Sign == sign {
+				o = b.Op
 			}
 		}
 		up, wantUp = "a "+sign+" "+up, op(o, a, wantUp)
@@ -84,27 +84,27 @@ func TestAllStrengths(t *testing.T) {
 func TestSignsAheadOfOne(t *testing.T) {
 	a, b := reg("a"), num(2)
 	for _, u := range aheads() {
-		wantExpr(t, u.sign+"a", op(u.op, a))
-		wantExpr(t, u.sign+" 2", op(u.op, b))
-		wantExpr(t, u.sign+"(a)", op(u.op, a))
-		wantExpr(t, "("+u.sign+"a)", op(u.op, a))
+		wantExpr(t, u.Sign+"a", op(u.Op, a))
+		wantExpr(t, u.Sign+" 2", op(u.Op, b))
+		wantExpr(t, u.Sign+"(a)", op(u.Op, a))
+		wantExpr(t, "("+u.Sign+"a)", op(u.Op, a))
 		for _, v := range aheads() {
-			wantExpr(t, u.sign+v.sign+"a", op(u.op, op(v.op, a)))
-			wantExpr(t, u.sign+"("+v.sign+"a)", op(u.op, op(v.op, a)))
-			wantExpr(t, u.sign+v.sign+u.sign+"2", op(u.op, op(v.op, op(u.op, b))))
+			wantExpr(t, u.Sign+v.Sign+"a", op(u.Op, op(v.Op, a)))
+			wantExpr(t, u.Sign+"("+v.Sign+"a)", op(u.Op, op(v.Op, a)))
+			wantExpr(t, u.Sign+v.Sign+u.Sign+"2", op(u.Op, op(v.Op, op(u.Op, b))))
 		}
 		for _, s := range betweens() {
-			wantExpr(t, u.sign+"a "+s.sign+" 2", op(s.op, op(u.op, a), b))
-			wantExpr(t, "a "+s.sign+" "+u.sign+"2", op(s.op, a, op(u.op, b)))
-			wantExpr(t, "a "+s.sign+" "+u.sign+u.sign+"2", op(s.op, a, op(u.op, op(u.op, b))))
-			wantExpr(t, u.sign+"a"+s.sign+" "+u.sign+"2 "+s.sign+u.sign+"a", op(s.op, op(s.op, op(u.op, a), op(u.op, b)), op(u.op, a)))
-			wantExpr(t, u.sign+"(a "+s.sign+" 2)", op(u.op, op(s.op, a, b)))
-			wantExpr(t, u.sign+"(a) "+s.sign+" 2", op(s.op, op(u.op, a), b))
+			wantExpr(t, u.Sign+"a "+s.Sign+" 2", op(s.Op, op(u.Op, a), b))
+			wantExpr(t, "a "+s.Sign+" "+u.Sign+"2", op(s.Op, a, op(u.Op, b)))
+			wantExpr(t, "a "+s.Sign+" "+u.Sign+u.Sign+"2", op(s.Op, a, op(u.Op, op(u.Op, b))))
+			wantExpr(t, u.Sign+"a"+s.Sign+" "+u.Sign+"2 "+s.Sign+u.Sign+"a", op(s.Op, op(s.Op, op(u.Op, a), op(u.Op, b)), op(u.Op, a)))
+			wantExpr(t, u.Sign+"(a "+s.Sign+" 2)", op(u.Op, op(s.Op, a, b)))
+			wantExpr(t, u.Sign+"(a) "+s.Sign+" 2", op(s.Op, op(u.Op, a), b))
 		}
-		wantExprFault(t, u.sign, 5, 1)
-		wantExprFault(t, u.sign+u.sign, 5, 2)
-		wantExprFault(t, u.sign+"()", 5, 2)
-		wantExprFault(t, "("+u.sign+")", 5, 2)
+		wantExprFault(t, u.Sign, 5, 1)
+		wantExprFault(t, u.Sign+u.Sign, 5, 2)
+		wantExprFault(t, u.Sign+"()", 5, 2)
+		wantExprFault(t, "("+u.Sign+")", 5, 2)
 	}
 	wantExpr(t, "a--1", op(15, a, op(3, num(1))))
 	wantExpr(t, "a - - - 1", op(15, a, op(3, op(3, num(1)))))
@@ -116,15 +116,15 @@ func TestSignsAheadOfOne(t *testing.T) {
 // A sign between two with nothing to a side, or with another one there.
 func TestSignsWithoutOperands(t *testing.T) {
 	for _, s := range betweens() {
-		n := len(s.sign)
-		wantExprFault(t, "a "+s.sign, 5, 2+n)
-		wantExprFault(t, "(a "+s.sign+" )", 5, 4+n)
-		if s.sign != "-" {
-			wantExprFault(t, s.sign, 5, 0)
-			wantExprFault(t, s.sign+" a", 5, 0)
-			wantExprFault(t, "("+s.sign+" a)", 5, 1)
-			wantExprFault(t, "a "+s.sign+" "+s.sign+" b", 5, 3+n)
-			wantExprFault(t, "- "+s.sign+" a", 5, 2)
+		n := len(s.Sign)
+		wantExprFault(t, "a "+s.Sign, 5, 2+n)
+		wantExprFault(t, "(a "+s.Sign+" )", 5, 4+n)
+		if s.Sign != "-" {
+			wantExprFault(t, s.Sign, 5, 0)
+			wantExprFault(t, s.Sign+" a", 5, 0)
+			wantExprFault(t, "("+s.Sign+" a)", 5, 1)
+			wantExprFault(t, "a "+s.Sign+" "+s.Sign+" b", 5, 3+n)
+			wantExprFault(t, "- "+s.Sign+" a", 5, 2)
 		}
 	}
 	for _, s := range []string{"=", ",", ";", "{", "}", ")"} {
@@ -157,8 +157,8 @@ func TestExprsInStmts(t *testing.T) {
 
 func TestExprsOfAnyShape(t *testing.T) {
 	for seed := range uint64(3000) {
-		m := maker{mix(seed) << 12}
-		e := m.expr(7)
+		m := newMaker(seed)
+		e := m.Expr(7)
 		if !tooGreat(e) {
 			wantExpr(t, exprText(e), e)
 			wantStmts(t, "r = "+exprText(e)+" ; ", api.Stmt{Kind: 1, Name: "r", Exprs: []api.Expr{e}})

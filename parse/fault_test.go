@@ -231,13 +231,13 @@ func TestSyntaxAndOpen(t *testing.T) {
 // No text makes a call panic, and each fault lies in the text.
 func TestAnyTexts(t *testing.T) {
 	for seed := range uint64(4000) {
-		m := maker{mix(seed) << 12}
+		m := newMaker(seed)
 		var b strings.Builder
-		for range m.below(60) {
+		for range m.Below(60) {
 			if seed%4 == 0 {
-				b.WriteByte(byte(m.below(256)))
+				b.WriteByte(byte(m.Below(256)))
 			} else {
-				b.WriteString(things()[m.below(len(things()))] + []string{"", " ", "\n", "//"}[m.below(20)%4])
+				b.WriteString(things()[m.Below(len(things()))] + []string{"", " ", "\n", "//"}[m.Below(20)%4])
 			}
 		}
 		s := b.String()

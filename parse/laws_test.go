@@ -11,6 +11,7 @@ import (
 	"cantilever/ast"
 	"cantilever/lex"
 	"cantilever/parse"
+	"cantilever/trees"
 )
 
 // close puts these tokens together with no blank where they stay the same without.
@@ -26,13 +27,13 @@ func close(l []string) string {
 }
 
 // apart puts blanks, line ends and remarks between these tokens, ahead of the first one and behind the last one.
-func apart(l []string, m *maker) string {
+func apart(l []string, m *trees.Maker) string {
 	gaps := []string{" ", "\t", "\n", "\r\n", "  ", "//\n", " // r = 1; } # 01\n", "// (((\n\n\t"}
 	var b strings.Builder
 	for _, text := range l {
-		b.WriteString(gaps[m.below(len(gaps))] + text)
+		b.WriteString(gaps[m.Below(len(gaps))] + text)
 	}
-	b.WriteString(gaps[m.below(len(gaps))] + "// the end {")
+	b.WriteString(gaps[m.Below(len(gaps))] + "// the end {")
 	return b.String()
 }
 
@@ -79,17 +80,17 @@ func TestBlanksAndRemarksChangeOnlyPlaces(t *testing.T) {
 	}
 	for i, s := range texts {
 		l := strings.Fields(s)
-		m := maker{mix(uint64(i)) << 8}
+		m := newMaker(uint64(i))
 		wantAlike(t, s, close(l))
-		wantAlike(t, s, apart(l, &m))
+		wantAlike(t, s, apart(l, m))
 		for k := range 3 {
 			if len(l) > 0 {
-				l[m.below(len(l))] = things()[m.below(len(things()))]
+				l[m.Below(len(l))] = things()[m.Below(len(things()))]
 			}
 			broken := strings.Join(l, " ")
 			wantAlike(t, broken, close(l))
 			if k > 0 {
-				wantAlike(t, broken, apart(l, &m))
+				wantAlike(t, broken, apart(l, m))
 			}
 		}
 	}

@@ -137,9 +137,9 @@ func TestAnswersMayBe(t *testing.T) {
 	good := 0
 	for i, p := range programs() {
 		l := texts(programText(p))
-		m := maker{mix(uint64(i)) << 8}
+		m := newMaker(uint64(i))
 		if len(l) > 0 {
-			l[m.below(len(l))] = things()[m.below(len(things()))]
+			l[m.Below(len(l))] = things()[m.Below(len(things()))]
 		}
 		s := strings.Join(l, " ")
 		got, fault := parse.Parse(s)

@@ -13,6 +13,7 @@ import (
 	"cantilever/ast"
 	"cantilever/lex"
 	"cantilever/parse"
+	"cantilever/trees"
 )
 
 // An alternative is a rule's name, and what may stand for it: names of rules, with a capital, and tokens.
@@ -41,7 +42,7 @@ func grammar() []alternative {
 		}
 	}
 	for _, b := range betweens() {
-		l = append(l, alternative{"Between", b.sign})
+		l = append(l, alternative{"Between", b.Sign})
 	}
 	return l
 }
@@ -226,7 +227,7 @@ func bracketed(l []api.Token) (in, behind []api.Token) {
 
 // plainExpr parts an expression at the last one of its weakest signs.
 func plainExpr(l []api.Token) api.Expr {
-	best, at := between{strength: 10}, -1
+	best, at := trees.Between{Strength: 10}, -1
 	deep := 0
 	for i, t := range l {
 		switch t.Text {
@@ -235,17 +236,17 @@ func plainExpr(l []api.Token) api.Expr {
 		case ")":
 			deep--
 		}
-		k := slices.IndexFunc(betweens(), func(b between) bool { return b.sign == t.Text })
+		k := slices.IndexFunc(betweens(), func(b trees.Between) bool { return b.Sign == t.Text })
 		if deep > 0 || k < 0 || i == 0 || l[i-1].Kind == api.TokSign && l[i-1].Text != ")" {
 			continue
 		}
-		if b := betweens()[k]; b.strength <= best.strength {
+		if b := betweens()[k]; b.Strength <= best.Strength {
 			best, at = b, i
 		}
 	}
 	switch first := l[0]; {
 	case at > 0:
-		return op(best.op, plainExpr(l[:at]), plainExpr(l[at+1:]))
+		return op(best.Op, plainExpr(l[:at]), plainExpr(l[at+1:]))
 	case first.Text == "-":
 		return op(3, plainExpr(l[1:]))
 	case first.Text == "!":
@@ -478,9 +479,9 @@ func TestLikeThePlainOneOnAnyPrograms(t *testing.T) {
 		s := programText(p)
 		likeProgram(t, rules, s)
 		l := texts(s)
-		m := maker{mix(uint64(i)) << 8}
+		m := newMaker(uint64(i))
 		for k := 0; k < 3 && len(l) > 0; k++ {
-			l[m.below(len(l))] = things()[m.below(len(things()))]
+			l[m.Below(len(l))] = things()[m.Below(len(things()))]
 			likeProgram(t, rules, strings.Join(l, " "))
 		}
 	}
@@ -490,26 +491,26 @@ func TestLikeThePlainOneOnAnyPrograms(t *testing.T) {
 func TestLikeThePlainOneOnAnyExprs(t *testing.T) {
 	rules := grammar()
 	for seed := range uint64(4000) {
-		m := maker{mix(seed) << 12}
-		likeExpr(t, rules, strings.Join(anyExpr(&m, 4), []string{"", " ", "\n"}[seed%2+1]))
+		m := newMaker(seed)
+		likeExpr(t, rules, strings.Join(anyExpr(m, 4), []string{"", " ", "\n"}[seed%2+1]))
 	}
 }
 
 // anyExpr is the tokens of an expression, each with signs ahead of it and brackets where a number tells.
-func anyExpr(m *maker, room int) []string {
+func anyExpr(m *trees.Maker, room int) []string {
 	var l []string
-	for n := range 1 + m.below(6) {
+	for n := range 1 + m.Below(6) {
 		if n > 0 {
-			l = append(l, betweens()[m.below(12)].sign)
+			l = append(l, betweens()[m.Below(12)].Sign)
 		}
-		for m.below(4) == 0 {
-			l = append(l, aheads()[m.below(2)].sign)
+		for m.Below(4) == 0 {
+			l = append(l, aheads()[m.Below(2)].Sign)
 		}
 		switch {
-		case room > 0 && m.below(3) == 0:
+		case room > 0 && m.Below(3) == 0:
 			l = append(append(append(l, "("), anyExpr(m, room-1)...), ")")
-		case m.below(2) == 0:
-			l = append(l, m.word())
+		case m.Below(2) == 0:
+			l = append(l, m.Word())
 		default:
 			l = append(l, "7")
 		}
